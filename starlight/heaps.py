@@ -1,0 +1,103 @@
+"""The calls on frames and places, as the document's interface tells them.
+
+Places are told in 64ths of a frame's place. Distances are compared by their
+squares, so that no root, and with it no rounding, comes in.
+"""
+
+SIDE = 64
+HALF = 32
+POINT_STEPS = (8, 24, 40, 56)
+
+MOST_SIDE = 64
+MOST_PLACES = 64
+MOST_RADIUS = 4096
+
+
+def frame_is_bad(w, h):
+    """Whether a frame of w by h is out of range."""
+    return w < 1 or w > MOST_SIDE or h < 1 or h > MOST_SIDE
+
+
+def places_are_bad(xy):
+    """Whether there are more places than may be."""
+    return len(xy) > 2 * MOST_PLACES
+
+
+def places_of(xy):
+    """The places of xy, each across and down."""
+    return [(xy[k], xy[k + 1]) for k in range(0, len(xy), 2)]
+
+
+def point_gaps(k, at):
+    """How far the points of column (or row) k are from at, squared."""
+    return [(SIDE * k + step - at) ** 2 for step in POINT_STEPS]
+
+
+def points_within(across, down, most):
+    """How many of a place's points are no farther than most, all told as squares."""
+    points = 0
+    for dy in down:
+        for dx in across:
+            if dx + dy <= most:
+                points += 1
+    return points
+
+
+def aperture(r, w, h, f, x, y):
+    """The numbers and the points of the aperture about (x, y) with r."""
+    across = [point_gaps(c, x) for c in range(w)]
+    numbers = 0
+    points = 0
+    for q in range(h):
+        down = point_gaps(q, y)
+        for c in range(w):
+            within = points_within(across[c], down, r * r)
+            numbers += f[q * w + c] * within
+            points += within
+    return [numbers, points]
+
+
+def middle_gap(k, at):
+    """How far the middle of column (or row) k is from at, squared."""
+    return (SIDE * k + HALF - at) ** 2
+
+
+def ring(a, b, w, h, f, x, y):
+    """The numbers of the places in the ring about (x, y) from a to b."""
+    numbers = []
+    for q in range(h):
+        down = middle_gap(q, y)
+        for c in range(w):
+            gap = middle_gap(c, x) + down
+            if gap > a * a and gap <= b * b:
+                numbers.append(f[q * w + c])
+    return numbers
+
+
+def middle_one(numbers):
+    """The middle one of some numbers, of two the lower, 0 of none."""
+    if len(numbers) == 0:
+        return 0
+    return sorted(numbers)[(len(numbers) - 1) // 2]
+
+
+def ap_aperture(r, w, h, f, xy):
+    """0, then for each place its aperture's numbers and points; or -2 alone."""
+    if r > MOST_RADIUS or frame_is_bad(w, h) or places_are_bad(xy):
+        return [-2]
+    answer = [0]
+    for x, y in places_of(xy):
+        answer.extend(aperture(r, w, h, f, x, y))
+    return answer
+
+
+def ap_ring(a, b, w, h, f, xy):
+    """0, then for each place how many places its ring has and their middle one; or -2 alone."""
+    if a > MOST_RADIUS or b > MOST_RADIUS or frame_is_bad(w, h) or places_are_bad(xy):
+        return [-2]
+    answer = [0]
+    for x, y in places_of(xy):
+        numbers = ring(a, b, w, h, f, x, y)
+        answer.append(len(numbers))
+        answer.append(middle_one(numbers))
+    return answer
