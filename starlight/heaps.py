@@ -11,6 +11,10 @@ POINT_STEPS = (8, 24, 40, 56)
 MOST_SIDE = 64
 MOST_PLACES = 64
 MOST_RADIUS = 4096
+MOST_LEVEL = 65535
+MOST_TIMES = 32
+
+NOTHING = 4294967295
 
 
 def frame_is_bad(w, h):
@@ -81,6 +85,56 @@ def middle_one(numbers):
     return sorted(numbers)[(len(numbers) - 1) // 2]
 
 
+def own(r, a, b, w, h, f, x, y):
+    """The aperture's numbers about (x, y), for each of its points less the middle one of the ring."""
+    opening = aperture(r, w, h, f, x, y)
+    sky = middle_one(ring(a, b, w, h, f, x, y))
+    return opening[0] - sky * opening[1]
+
+
+def rounded(over, under):
+    """The quotient's nearest whole number, of two as near the greater."""
+    return (2 * over + under) // (2 * under)
+
+
+def places_above(level, w, f):
+    """The places with a number above the level: each its weight, and its middle across and down."""
+    found = []
+    for k, number in enumerate(f):
+        if number > level:
+            found.append((number - level, SIDE * (k % w) + HALF, SIDE * (k // w) + HALF))
+    return found
+
+
+def those_near(heap, r, x, y):
+    """Those of a heap's weighed places whose middle is no farther than r from (x, y)."""
+    most = r * r
+    return [place for place in heap if (place[1] - x) ** 2 + (place[2] - y) ** 2 <= most]
+
+
+def middle_by_weights(near):
+    """The middle of some weighed places, of which there's at least one."""
+    weights = sum([weight for weight, across, down in near])
+    over_across = sum([weight * across for weight, across, down in near])
+    over_down = sum([weight * down for weight, across, down in near])
+    return [rounded(over_across, weights), rounded(over_down, weights)]
+
+
+def middle_from(heap, r, m, x, y):
+    """Where m times at most the middle by weights leads from (x, y), till it stays."""
+    place = [x, y]
+    for turn in range(m):
+        near = those_near(heap, r, place[0], place[1])
+        # Weights of 0 aren't in the heap: that none is near says that their sum is 0.
+        if len(near) == 0:
+            return [NOTHING, NOTHING]
+        middle = middle_by_weights(near)
+        if middle == place:
+            return place
+        place = middle
+    return place
+
+
 def ap_aperture(r, w, h, f, xy):
     """0, then for each place its aperture's numbers and points; or -2 alone."""
     if r > MOST_RADIUS or frame_is_bad(w, h) or places_are_bad(xy):
@@ -100,4 +154,25 @@ def ap_ring(a, b, w, h, f, xy):
         numbers = ring(a, b, w, h, f, x, y)
         answer.append(len(numbers))
         answer.append(middle_one(numbers))
+    return answer
+
+
+def ap_own(r, a, b, w, h, f, xy):
+    """0, then for each place what its aperture has above the ring's sky; or -2 alone."""
+    if r > MOST_RADIUS or a > MOST_RADIUS or b > MOST_RADIUS or frame_is_bad(w, h) or places_are_bad(xy):
+        return [-2]
+    answer = [0]
+    for x, y in places_of(xy):
+        answer.append(own(r, a, b, w, h, f, x, y) % 2 ** 64)
+    return answer
+
+
+def ap_middle(level, r, m, w, h, f, xy):
+    """0, then for each place the middle that it comes to, across and down; or -2 alone."""
+    if level > MOST_LEVEL or r > MOST_RADIUS or m > MOST_TIMES or frame_is_bad(w, h) or places_are_bad(xy):
+        return [-2]
+    heap = places_above(level, w, f)
+    answer = [0]
+    for x, y in places_of(xy):
+        answer.extend(middle_from(heap, r, m, x, y))
     return answer

@@ -4,7 +4,9 @@ Also a comparison with a slow telling of the same words, point by point and plac
 """
 
 import contextlib
+import fractions
 import io
+import math
 import unittest
 
 from starlight import heaps
@@ -53,6 +55,48 @@ def slow_ring(a, b, w, h, f, xy):
     return answer
 
 
+def slow_own(r, a, b, w, h, f, xy):
+    apertures = slow_aperture(r, w, h, f, xy)[1:]
+    skies = slow_ring(a, b, w, h, f, xy)[2::2]
+    answer = [0]
+    for k, sky in enumerate(skies):
+        left = apertures[2 * k] - sky * apertures[2 * k + 1]
+        answer.append(left if left >= 0 else left + 18446744073709551616)
+    return answer
+
+
+def nearest(over, under):
+    """The nearest whole number, of two as near the greater."""
+    return math.floor(fractions.Fraction(over, under) + fractions.Fraction(1, 2))
+
+
+def slow_weights(level, r, w, h, f, x, y):
+    """For every place of the frame its middle across and down and its weight, be it 0."""
+    found = []
+    for k, number in enumerate(f):
+        px = 64 * (k % w) + 32
+        py = 64 * (k // w) + 32
+        near = (px - x) * (px - x) + (py - y) * (py - y) <= r * r
+        found.append((px, py, max(number - level, 0) if near else 0))
+    return found
+
+
+def slow_middle(level, r, m, w, h, f, xy):
+    answer = [0]
+    for x, y in zip(xy[::2], xy[1::2]):
+        # All of the m times, though it stays: where it stays it stays for good.
+        for _ in range(m):
+            found = slow_weights(level, r, w, h, f, x, y)
+            weights = sum(weight for px, py, weight in found)
+            if weights == 0:
+                x = y = 2 ** 32 - 1
+                break
+            x = nearest(sum(weight * px for px, py, weight in found), weights)
+            y = nearest(sum(weight * py for px, py, weight in found), weights)
+        answer += [x, y]
+    return answer
+
+
 SIZES = ((1, 1), (1, 7), (7, 1), (2, 3), (5, 4), (9, 9), (64, 1), (1, 64), (13, 2))
 
 
@@ -74,6 +118,25 @@ class SlowTelling(unittest.TestCase):
             for a, b in ((0, 1), (0, 64), (33, 100), (64, 257), (100, 1000), (0, 4096), (1000, 4096), (64, 33)):
                 self.assertEqual(heaps.ap_ring(a, b, w, h, f, xy), slow_ring(a, b, w, h, f, xy), (a, b, w, h))
 
+    def test_owns(self):
+        for w, h, f, xy in self.frames():
+            for r, a, b in ((0, 0, 64), (8, 33, 100), (64, 64, 257), (100, 100, 1000), (257, 0, 4096), (4096, 64, 33)):
+                self.assertEqual(heaps.ap_own(r, a, b, w, h, f, xy), slow_own(r, a, b, w, h, f, xy), (r, a, b, w, h))
+
+    def test_middles(self):
+        for w, h, f, xy in self.frames():
+            for level in (0, 30000, 65000):
+                for r, m in ((33, 1), (33, 32), (64, 2), (100, 3), (150, 32), (257, 5), (4096, 1), (4096, 0)):
+                    want = slow_middle(level, r, m, w, h, f, xy)
+                    self.assertEqual(heaps.ap_middle(level, r, m, w, h, f, xy), want, (level, r, m, w, h))
+
+    def test_middles_among_small_numbers(self):
+        # Weights alike and few: halves between two whole numbers are met often.
+        for w, h, f, xy in self.frames():
+            few = [number % 4 for number in f]
+            for r, m in ((50, 1), (70, 32), (100, 1), (200, 3), (4096, 1)):
+                self.assertEqual(heaps.ap_middle(1, r, m, w, h, few, xy), slow_middle(1, r, m, w, h, few, xy), (r, m, w))
+
 
 def all_calls(f, xy):
     """Every call that has landed, as pairs of a name and what makes the call with these lists."""
@@ -82,6 +145,11 @@ def all_calls(f, xy):
         ("ap_aperture refused", lambda: heaps.ap_aperture(4097, 3, 2, f, xy)),
         ("ap_ring", lambda: heaps.ap_ring(10, 100, 3, 2, f, xy)),
         ("ap_ring refused", lambda: heaps.ap_ring(10, 4097, 3, 2, f, xy)),
+        ("ap_own", lambda: heaps.ap_own(40, 10, 100, 3, 2, f, xy)),
+        ("ap_own refused", lambda: heaps.ap_own(40, 10, 4097, 3, 2, f, xy)),
+        ("ap_middle", lambda: heaps.ap_middle(25, 100, 32, 3, 2, f, xy)),
+        ("ap_middle at no time", lambda: heaps.ap_middle(25, 100, 0, 3, 2, f, xy)),
+        ("ap_middle refused", lambda: heaps.ap_middle(25, 100, 33, 3, 2, f, xy)),
     ]
 
 

@@ -11,6 +11,8 @@ PACKAGE = pathlib.Path(__file__).resolve().parent.parent / "starlight"
 INTERFACE = {
     "ap_aperture": ["r", "w", "h", "f", "xy"],
     "ap_ring": ["a", "b", "w", "h", "f", "xy"],
+    "ap_own": ["r", "a", "b", "w", "h", "f", "xy"],
+    "ap_middle": ["level", "r", "m", "w", "h", "f", "xy"],
 }
 
 STATEMENTS = (ast.FunctionDef, ast.ClassDef, ast.Assign, ast.AugAssign, ast.If, ast.While, ast.For, ast.Return,
