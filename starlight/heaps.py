@@ -13,8 +13,15 @@ MOST_PLACES = 64
 MOST_RADIUS = 4096
 MOST_LEVEL = 65535
 MOST_TIMES = 32
+MOST_THINGS = 1024
+MOST_WIDTH = 33554432
 
 NOTHING = 4294967295
+
+ACROSS = 0
+RIGHT_BELOW = 1
+DOWN = 2
+LEFT_BELOW = 3
 
 
 def frame_is_bad(w, h):
@@ -135,6 +142,62 @@ def middle_from(heap, r, m, x, y):
     return place
 
 
+def widths(near, x, y):
+    """The widths about (x, y) of some weighed places, of which there's at least one."""
+    weights = sum([weight for weight, across, down in near])
+    over_across = sum([weight * (across - x) ** 2 for weight, across, down in near])
+    over_down = sum([weight * (down - y) ** 2 for weight, across, down in near])
+    over_both = sum([weight * (across - x) * (down - y) for weight, across, down in near])
+    return [rounded(over_across, weights), rounded(over_down, weights), rounded(over_both, weights)]
+
+
+def moments_at(heap, r, x, y):
+    """The widths about (x, y) of what's near it, as words."""
+    near = those_near(heap, r, x, y)
+    if len(near) == 0:
+        return [NOTHING, NOTHING, NOTHING]
+    return [width % 2 ** 32 for width in widths(near, x, y)]
+
+
+def signed(word):
+    """What a word tells: those from 2 ** 31 on stand for numbers below 0."""
+    return word - 2 ** 32 if word >= 2 ** 31 else word
+
+
+def things_of(l):
+    """The three widths of each thing of l."""
+    return [(signed(l[k]), signed(l[k + 1]), signed(l[k + 2])) for k in range(0, len(l), 3)]
+
+
+def widths_are_bad(a, b, c):
+    """Whether one of a thing's widths is out of range."""
+    return a < 0 or a > MOST_WIDTH or b < 0 or b > MOST_WIDTH or abs(c) > MOST_WIDTH
+
+
+def root(n):
+    """The greatest whole number whose square isn't above n, for n below 2 ** 64."""
+    found = 0
+    step = 2 ** 31
+    while step > 0:
+        if (found + step) ** 2 <= n:
+            found += step
+        step //= 2
+    return found
+
+
+def way_of_long_axis(a, b, c):
+    """Which way the long axis of widths a, b, c goes."""
+    if abs(2 * c) < abs(a - b):
+        return ACROSS if b < a else DOWN
+    return RIGHT_BELOW if c >= 0 else LEFT_BELOW
+
+
+def shape(a, b, c):
+    """The long axis and the short one of widths a, b, c as words, and which way the long one goes."""
+    apart = root((a - b) ** 2 + 4 * c * c)
+    return [a + b + apart, (a + b - apart) % 2 ** 32, way_of_long_axis(a, b, c)]
+
+
 def ap_aperture(r, w, h, f, xy):
     """0, then for each place its aperture's numbers and points; or -2 alone."""
     if r > MOST_RADIUS or frame_is_bad(w, h) or places_are_bad(xy):
@@ -175,4 +238,27 @@ def ap_middle(level, r, m, w, h, f, xy):
     answer = [0]
     for x, y in places_of(xy):
         answer.extend(middle_from(heap, r, m, x, y))
+    return answer
+
+
+def ap_moments(level, r, w, h, f, xy):
+    """0, then for each place the three widths about it; or -2 alone."""
+    if level > MOST_LEVEL or r > MOST_RADIUS or frame_is_bad(w, h) or places_are_bad(xy):
+        return [-2]
+    heap = places_above(level, w, f)
+    answer = [0]
+    for x, y in places_of(xy):
+        answer.extend(moments_at(heap, r, x, y))
+    return answer
+
+
+def ap_shape(l):
+    """0, then for each three widths the long axis, the short one and which way; or -2 or -3 alone."""
+    if len(l) > 3 * MOST_THINGS:
+        return [-2]
+    answer = [0]
+    for a, b, c in things_of(l):
+        if widths_are_bad(a, b, c):
+            return [-3]
+        answer.extend(shape(a, b, c))
     return answer

@@ -97,6 +97,36 @@ def slow_middle(level, r, m, w, h, f, xy):
     return answer
 
 
+def slow_moments(level, r, w, h, f, xy):
+    answer = [0]
+    for x, y in zip(xy[::2], xy[1::2]):
+        found = slow_weights(level, r, w, h, f, x, y)
+        weights = sum(weight for px, py, weight in found)
+        if weights == 0:
+            answer += [2 ** 32 - 1] * 3
+            continue
+        for over in (sum(weight * (px - x) * (px - x) for px, py, weight in found),
+                     sum(weight * (py - y) * (py - y) for px, py, weight in found),
+                     sum(weight * (px - x) * (py - y) for px, py, weight in found)):
+            width = nearest(over, weights)
+            answer.append(width if width >= 0 else width + 4294967296)
+    return answer
+
+
+def slow_shape(l):
+    answer = [0]
+    for a, b, word in zip(l[::3], l[1::3], l[2::3]):
+        c = word if word < 2147483648 else word - 4294967296
+        apart = math.isqrt((a - b) * (a - b) + 4 * c * c)
+        short = a + b - apart
+        answer += [a + b + apart, short if short >= 0 else short + 4294967296]
+        if -abs(a - b) < 2 * c < abs(a - b):
+            answer.append(0 if a > b else 2)
+        else:
+            answer.append(3 if c < 0 else 1)
+    return answer
+
+
 SIZES = ((1, 1), (1, 7), (7, 1), (2, 3), (5, 4), (9, 9), (64, 1), (1, 64), (13, 2))
 
 
@@ -137,9 +167,32 @@ class SlowTelling(unittest.TestCase):
             for r, m in ((50, 1), (70, 32), (100, 1), (200, 3), (4096, 1)):
                 self.assertEqual(heaps.ap_middle(1, r, m, w, h, few, xy), slow_middle(1, r, m, w, h, few, xy), (r, m, w))
 
+    def test_moments(self):
+        for w, h, f, xy in self.frames():
+            few = [number % 4 for number in f]
+            for r in (0, 33, 64, 100, 257, 1000, 4096):
+                for level in (0, 30000, 65000):
+                    want = slow_moments(level, r, w, h, f, xy)
+                    self.assertEqual(heaps.ap_moments(level, r, w, h, f, xy), want, (level, r, w, h))
+                self.assertEqual(heaps.ap_moments(1, r, w, h, few, xy), slow_moments(1, r, w, h, few, xy), (r, w, h))
 
-def all_calls(f, xy):
+    def test_shapes_of_small_widths(self):
+        for a in range(12):
+            for b in range(12):
+                l = [word for c in range(-9, 10) for word in (a, b, c % 2 ** 32)]
+                self.assertEqual(heaps.ap_shape(l), slow_shape(l), (a, b))
+
+    def test_shapes_of_mixed_widths(self):
+        for limit in (100, 5000, 2 ** 20, 2 ** 25 + 1):
+            sides = numbers_below(limit, 2000, 5)
+            thirds = [(c if k % 2 else -c) % 2 ** 32 for k, c in enumerate(numbers_below(limit, 1000, 6))]
+            l = [word for k in range(1000) for word in (sides[2 * k], sides[2 * k + 1], thirds[k])]
+            self.assertEqual(heaps.ap_shape(l), slow_shape(l), limit)
+
+
+def all_calls(f, xy, l):
     """Every call that has landed, as pairs of a name and what makes the call with these lists."""
+    bad = type(l)(l + [0, 0, 2 ** 31])
     return [
         ("ap_aperture", lambda: heaps.ap_aperture(70, 3, 2, f, xy)),
         ("ap_aperture refused", lambda: heaps.ap_aperture(4097, 3, 2, f, xy)),
@@ -150,6 +203,10 @@ def all_calls(f, xy):
         ("ap_middle", lambda: heaps.ap_middle(25, 100, 32, 3, 2, f, xy)),
         ("ap_middle at no time", lambda: heaps.ap_middle(25, 100, 0, 3, 2, f, xy)),
         ("ap_middle refused", lambda: heaps.ap_middle(25, 100, 33, 3, 2, f, xy)),
+        ("ap_moments", lambda: heaps.ap_moments(25, 100, 3, 2, f, xy)),
+        ("ap_moments refused", lambda: heaps.ap_moments(65536, 100, 3, 2, f, xy)),
+        ("ap_shape", lambda: heaps.ap_shape(l)),
+        ("ap_shape refused", lambda: heaps.ap_shape(bad)),
     ]
 
 
@@ -157,20 +214,22 @@ class EveryCall(unittest.TestCase):
     def setUp(self):
         self.f = [60, 10, 50, 20, 40, 30]
         self.xy = [100, 70, 3, 5, 65535, 0]
+        self.l = [900, 400, 120, 7, 7, 2 ** 32 - 9, 0, 33554432, 33554432]
 
     def test_lists_stay_as_they_were(self):
         f = list(self.f)
         xy = list(self.xy)
-        for name, call in all_calls(f, xy):
+        l = list(self.l)
+        for name, call in all_calls(f, xy, l):
             call()
-            self.assertEqual((f, xy), (self.f, self.xy), name)
+            self.assertEqual((f, xy, l), (self.f, self.xy, self.l), name)
 
     def test_lists_are_not_changed_for_a_while(self):
-        for name, call in all_calls(Unchanging(self.f), Unchanging(self.xy)):
+        for name, call in all_calls(Unchanging(self.f), Unchanging(self.xy), Unchanging(self.l)):
             call()
 
     def test_same_answer_a_second_time(self):
-        calls = all_calls(self.f, self.xy)
+        calls = all_calls(self.f, self.xy, self.l)
         first = [call() for name, call in calls]
         kept = [list(answer) for answer in first]
         # What a caller does to an answer is not seen in the next one.
@@ -180,7 +239,7 @@ class EveryCall(unittest.TestCase):
         self.assertEqual([call() for name, call in reversed(calls)], kept[::-1])
 
     def test_answers_are_lists_of_whole_numbers(self):
-        for name, call in all_calls(self.f, self.xy):
+        for name, call in all_calls(self.f, self.xy, self.l):
             answer = call()
             self.assertIs(type(answer), list, name)
             self.assertEqual({type(number) for number in answer}, {int}, name)
@@ -189,7 +248,7 @@ class EveryCall(unittest.TestCase):
         out = io.StringIO()
         err = io.StringIO()
         with contextlib.redirect_stdout(out), contextlib.redirect_stderr(err):
-            for name, call in all_calls(self.f, self.xy):
+            for name, call in all_calls(self.f, self.xy, self.l):
                 call()
         self.assertEqual((out.getvalue(), err.getvalue()), ("", ""))
 

@@ -13,6 +13,8 @@ INTERFACE = {
     "ap_ring": ["a", "b", "w", "h", "f", "xy"],
     "ap_own": ["r", "a", "b", "w", "h", "f", "xy"],
     "ap_middle": ["level", "r", "m", "w", "h", "f", "xy"],
+    "ap_moments": ["level", "r", "w", "h", "f", "xy"],
+    "ap_shape": ["l"],
 }
 
 STATEMENTS = (ast.FunctionDef, ast.ClassDef, ast.Assign, ast.AugAssign, ast.If, ast.While, ast.For, ast.Return,
