@@ -1,7 +1,7 @@
-"""The calls on frames and places, as the document's interface tells them.
+"""The calls on frames, places and numbers, as the document's interface tells them.
 
 Places are told in 64ths of a frame's place. Distances are compared by their
-squares, so that no root, and with it no rounding, comes in.
+squares, so that no rounding comes in.
 """
 
 SIDE = 64
@@ -15,6 +15,14 @@ MOST_LEVEL = 65535
 MOST_TIMES = 32
 MOST_THINGS = 1024
 MOST_WIDTH = 33554432
+MOST_REACH = 512
+# Shares of light are told in 256ths: this one is the whole of it.
+MOST_SHARE = 256
+
+# A doubling is 4096 of a power, and 752.6 thousandths of a magnitude.
+MAGNITUDE_OVER = 7526
+MAGNITUDE_UNDER = 40960
+POWER_TURNS = 12
 
 NOTHING = 4294967295
 
@@ -198,6 +206,71 @@ def shape(a, b, c):
     return [a + b + apart, (a + b - apart) % 2 ** 32, way_of_long_axis(a, b, c)]
 
 
+def points_near(most, many, at):
+    """Of the points in many columns (or rows), those no farther than most from at: which column, how far squared."""
+    found = []
+    for k in range(many):
+        for gap in point_gaps(k, at):
+            if gap <= most * most:
+                found.append((k, gap))
+    return found
+
+
+def light_near(most, w, h, f, x, y):
+    """The points within most of (x, y): each how far it is, squared, and its place's number."""
+    across = points_near(most, w, x)
+    light = []
+    for q, dy in points_near(most, h, y):
+        for c, dx in across:
+            if dx + dy <= most * most:
+                light.append((dx + dy, f[q * w + c]))
+    return light
+
+
+def radius_that_reaches(gap):
+    """The least whole radius that reaches as far as gap, which is told as a square."""
+    below = root(gap)
+    return below if below * below == gap else below + 1
+
+
+def least_radius(light, k):
+    """The least radius within which at least k 256ths of the light are."""
+    need = k * sum([number for gap, number in light])
+    have = 0
+    reach = 0
+    # From the nearest point on: the one that fills the need says how far the radius must reach.
+    for gap, number in sorted(light):
+        if have >= need:
+            break
+        have += MOST_SHARE * number
+        reach = gap
+    return radius_that_reaches(reach)
+
+
+def power(n):
+    """The power of n, which is above 0: the whole part of 4096 times its logarithm to two, as near as 30 bits tell."""
+    e = n.bit_length() - 1
+    m = n
+    while m < 2 ** 30:
+        m *= 2
+    while m >= 2 ** 31:
+        m //= 2
+    for turn in range(POWER_TURNS):
+        q = m * m // 2 ** 30
+        if q >= 2 ** 31:
+            e = 2 * e + 1
+            m = q // 2
+        else:
+            e = 2 * e
+            m = q
+    return e
+
+
+def magnitude(a, b):
+    """By how many thousandths of a magnitude a is fainter than b."""
+    return rounded((power(b) - power(a)) * MAGNITUDE_OVER, MAGNITUDE_UNDER)
+
+
 def ap_aperture(r, w, h, f, xy):
     """0, then for each place its aperture's numbers and points; or -2 alone."""
     if r > MOST_RADIUS or frame_is_bad(w, h) or places_are_bad(xy):
@@ -262,3 +335,22 @@ def ap_shape(l):
             return [-3]
         answer.extend(shape(a, b, c))
     return answer
+
+
+def ap_radius(most, k, w, h, f, xy):
+    """0, then for each place the least radius with k 256ths of the light that's within most; or -2 alone."""
+    if most > MOST_REACH or k > MOST_SHARE or frame_is_bad(w, h) or places_are_bad(xy):
+        return [-2]
+    answer = [0]
+    for x, y in places_of(xy):
+        answer.append(least_radius(light_near(most, w, h, f, x, y), k))
+    return answer
+
+
+def ap_magnitude(a, b):
+    """0, then for each two numbers how much fainter a is than b, as words; or -2 or -3 alone."""
+    if len(a) > MOST_THINGS or len(b) > MOST_THINGS:
+        return [-2]
+    if 0 in a or 0 in b:
+        return [-3]
+    return [0] + [magnitude(one, other) % 2 ** 32 for one, other in zip(a, b)]

@@ -127,6 +127,38 @@ def slow_shape(l):
     return answer
 
 
+def slow_radius(most, k, w, h, f, xy):
+    answer = [0]
+    for x, y in zip(xy[::2], xy[1::2]):
+        whole = slow_aperture(most, w, h, f, [x, y])[1]
+        r = 0
+        while 256 * slow_aperture(r, w, h, f, [x, y])[1] < k * whole:
+            r += 1
+        answer.append(r)
+    return answer
+
+
+def slow_power(n):
+    """The document's words, one by one, with quotients rounded down as such."""
+    e = max(k for k in range(64) if 2 ** k <= n)
+    m = n * 2 ** (30 - e) if e <= 30 else math.floor(fractions.Fraction(n, 2 ** (e - 30)))
+    for _ in range(12):
+        q = math.floor(fractions.Fraction(m * m, 2 ** 30))
+        if q >= 2 ** 31:
+            e, m = 2 * e + 1, math.floor(fractions.Fraction(q, 2))
+        else:
+            e, m = 2 * e, q
+    return e
+
+
+def slow_magnitude(a, b):
+    answer = [0]
+    for one, other in zip(a, b):
+        apart = nearest((slow_power(other) - slow_power(one)) * 7526, 40960)
+        answer.append(apart if apart >= 0 else apart + 4294967296)
+    return answer
+
+
 SIZES = ((1, 1), (1, 7), (7, 1), (2, 3), (5, 4), (9, 9), (64, 1), (1, 64), (13, 2))
 
 
@@ -189,10 +221,36 @@ class SlowTelling(unittest.TestCase):
             l = [word for k in range(1000) for word in (sides[2 * k], sides[2 * k + 1], thirds[k])]
             self.assertEqual(heaps.ap_shape(l), slow_shape(l), limit)
 
+    def test_radii(self):
+        for w, h, f, xy in self.frames():
+            dim = [number if number % 5 == 0 else 0 for number in f]
+            for most, k in ((0, 256), (20, 200), (50, 128), (150, 256)):
+                want = slow_radius(most, k, w, h, f, xy[:8])
+                self.assertEqual(heaps.ap_radius(most, k, w, h, f, xy[:8]), want, (most, k, w, h))
+                want = slow_radius(most, k, w, h, dim, xy[8:12])
+                self.assertEqual(heaps.ap_radius(most, k, w, h, dim, xy[8:12]), want, (most, k, w, h))
+
+    def test_magnitudes_of_small_numbers(self):
+        for one in range(1, 40):
+            a = [one] * 300
+            b = list(range(1, 301))
+            self.assertEqual(heaps.ap_magnitude(a, b), slow_magnitude(a, b), one)
+            self.assertEqual(heaps.ap_magnitude(b, a), slow_magnitude(b, a), one)
+
+    def test_magnitudes_of_mixed_numbers(self):
+        for limit in (100, 2 ** 15, 2 ** 23):
+            # Each with a rest of its own, up to the greatest word.
+            a = [512 * n + n % 509 + 1 for n in numbers_below(limit, 500, 7)]
+            b = [512 * n + n % 503 + 1 for n in numbers_below(limit, 500, 8)]
+            self.assertEqual(heaps.ap_magnitude(a, b), slow_magnitude(a, b), limit)
+
 
 def all_calls(f, xy, l):
     """Every call that has landed, as pairs of a name and what makes the call with these lists."""
     bad = type(l)(l + [0, 0, 2 ** 31])
+    ones = type(l)([1, 3, 5793, 2 ** 32 - 1])
+    others = type(l)([1024, 2, 32, 2 ** 31 + 1])
+    noughts = type(l)([7, 5, 0, 9])
     return [
         ("ap_aperture", lambda: heaps.ap_aperture(70, 3, 2, f, xy)),
         ("ap_aperture refused", lambda: heaps.ap_aperture(4097, 3, 2, f, xy)),
@@ -207,6 +265,10 @@ def all_calls(f, xy, l):
         ("ap_moments refused", lambda: heaps.ap_moments(65536, 100, 3, 2, f, xy)),
         ("ap_shape", lambda: heaps.ap_shape(l)),
         ("ap_shape refused", lambda: heaps.ap_shape(bad)),
+        ("ap_radius", lambda: heaps.ap_radius(300, 128, 3, 2, f, xy)),
+        ("ap_radius refused", lambda: heaps.ap_radius(300, 257, 3, 2, f, xy)),
+        ("ap_magnitude", lambda: heaps.ap_magnitude(ones, others)),
+        ("ap_magnitude refused", lambda: heaps.ap_magnitude(ones, noughts)),
     ]
 
 

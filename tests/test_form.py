@@ -15,6 +15,8 @@ INTERFACE = {
     "ap_middle": ["level", "r", "m", "w", "h", "f", "xy"],
     "ap_moments": ["level", "r", "w", "h", "f", "xy"],
     "ap_shape": ["l"],
+    "ap_radius": ["most", "k", "w", "h", "f", "xy"],
+    "ap_magnitude": ["a", "b"],
 }
 
 STATEMENTS = (ast.FunctionDef, ast.ClassDef, ast.Assign, ast.AugAssign, ast.If, ast.While, ast.For, ast.Return,
