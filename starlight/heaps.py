@@ -354,3 +354,19 @@ def ap_magnitude(a, b):
     if 0 in a or 0 in b:
         return [-3]
     return [0] + [magnitude(one, other) % 2 ** 32 for one, other in zip(a, b)]
+
+
+def ap_power(l):
+    """0, then the numbers' powers; or -2 or -3 alone."""
+    if len(l) > MOST_THINGS:
+        return [-2]
+    if 0 in l:
+        return [-3]
+    return [0] + [power(n) for n in l]
+
+
+def ap_root(l):
+    """0, then the numbers' whole roots; or -2 alone."""
+    if len(l) > MOST_THINGS:
+        return [-2]
+    return [0] + [root(n) for n in l]

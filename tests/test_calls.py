@@ -159,6 +159,14 @@ def slow_magnitude(a, b):
     return answer
 
 
+def slow_powers(l):
+    return [0] + [slow_power(n) for n in l]
+
+
+def slow_roots(l):
+    return [0] + [math.isqrt(n) for n in l]
+
+
 SIZES = ((1, 1), (1, 7), (7, 1), (2, 3), (5, 4), (9, 9), (64, 1), (1, 64), (13, 2))
 
 
@@ -244,13 +252,42 @@ class SlowTelling(unittest.TestCase):
             b = [512 * n + n % 503 + 1 for n in numbers_below(limit, 500, 8)]
             self.assertEqual(heaps.ap_magnitude(a, b), slow_magnitude(a, b), limit)
 
+    def mixed_numbers(self):
+        """Numbers of 1 to 64 bits, some hundred each."""
+        high = numbers_below(2 ** 23, 300, 9)
+        middle = numbers_below(2 ** 23, 300, 10)
+        low = numbers_below(2 ** 18, 300, 11)
+        whole = [2 ** 63 + one * 2 ** 40 + other * 2 ** 17 + last // 2 for one, other, last in zip(high, middle, low)]
+        for bits in range(1, 65):
+            yield [n >> (64 - bits) for n in whole]
+
+    def test_powers(self):
+        for start in range(1, 3001, 1000):
+            l = list(range(start, start + 1000))
+            self.assertEqual(heaps.ap_power(l), slow_powers(l), start)
+        for l in self.mixed_numbers():
+            self.assertEqual(heaps.ap_power(l), slow_powers(l), l[0])
+
+    def test_powers_are_logarithms(self):
+        # 4096 times the logarithm to two, rounded down; what is lost in twelve times may make it one less.
+        for l in self.mixed_numbers():
+            for n, told in zip(l[:20], heaps.ap_power(l[:20])[1:]):
+                self.assertIn((n ** 4096).bit_length() - 1 - told, (0, 1), n)
+
+    def test_roots(self):
+        for l in self.mixed_numbers():
+            self.assertEqual(heaps.ap_root(l), slow_roots(l), l[0])
+            near = [max(0, math.isqrt(n) ** 2 + beside) for n in l for beside in (-1, 0, 1)]
+            self.assertEqual(heaps.ap_root(near), slow_roots(near), l[0])
+
 
 def all_calls(f, xy, l):
-    """Every call that has landed, as pairs of a name and what makes the call with these lists."""
+    """Every call, as pairs of a name and what makes the call with these lists."""
     bad = type(l)(l + [0, 0, 2 ** 31])
     ones = type(l)([1, 3, 5793, 2 ** 32 - 1])
     others = type(l)([1024, 2, 32, 2 ** 31 + 1])
     noughts = type(l)([7, 5, 0, 9])
+    many = type(l)([4] * 1025)
     return [
         ("ap_aperture", lambda: heaps.ap_aperture(70, 3, 2, f, xy)),
         ("ap_aperture refused", lambda: heaps.ap_aperture(4097, 3, 2, f, xy)),
@@ -269,6 +306,10 @@ def all_calls(f, xy, l):
         ("ap_radius refused", lambda: heaps.ap_radius(300, 257, 3, 2, f, xy)),
         ("ap_magnitude", lambda: heaps.ap_magnitude(ones, others)),
         ("ap_magnitude refused", lambda: heaps.ap_magnitude(ones, noughts)),
+        ("ap_power", lambda: heaps.ap_power(ones)),
+        ("ap_power refused", lambda: heaps.ap_power(noughts)),
+        ("ap_root", lambda: heaps.ap_root(noughts)),
+        ("ap_root refused", lambda: heaps.ap_root(many)),
     ]
 
 

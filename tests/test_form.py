@@ -17,6 +17,8 @@ INTERFACE = {
     "ap_shape": ["l"],
     "ap_radius": ["most", "k", "w", "h", "f", "xy"],
     "ap_magnitude": ["a", "b"],
+    "ap_power": ["l"],
+    "ap_root": ["l"],
 }
 
 STATEMENTS = (ast.FunctionDef, ast.ClassDef, ast.Assign, ast.AugAssign, ast.If, ast.While, ast.For, ast.Return,
