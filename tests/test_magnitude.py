@@ -1,6 +1,8 @@
-"""Promise 5 as far as it speaks of ap_magnitude. Answers are worked out by hand from the document.
+"""Promise 5 as far as it speaks of ap_magnitude. Answers are worked out by hand from the document and the powers.
 
-Where the power of a number that's no power of two is told here, test_powers_told_here looks at it.
+Where the power of a small number that's no power of two is told here, test_powers_told_here looks at it. The pairs that
+come just to a half, or beside it, and the numbers that tell how quotients are rounded within a power were searched for
+by machine.
 """
 
 import unittest

@@ -1,4 +1,9 @@
-"""Promise 5 as far as it speaks of ap_power. Answers are worked out by hand from the document."""
+"""Promise 5 as far as it speaks of ap_power.
+
+Answers about powers of two are worked out by hand from the document, those of small numbers are held against
+n ** 4096. The steps of 3, and the numbers that tell how quotients are rounded, were searched for and reckoned by
+machine, with a second telling of the document's words (slow_power in test_calls.py is such a one).
+"""
 
 import unittest
 
